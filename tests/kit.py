@@ -1,0 +1,179 @@
+"""What several tests need: short ways to write fractions, programs and games, and a slow judge."""
+
+import copy
+import random
+from fractions import Fraction
+
+from unbent.games import Game
+from unbent.programs import Program
+from unbent.ratios import make
+
+ZERO = (0, 1)
+ONE = (1, 1)
+
+
+def r(value, below=1):
+    """The fraction of a number, as the program writes it."""
+    number = Fraction(value) / below
+    return number.numerator, number.denominator
+
+
+def rs(*values):
+    return [r(value) for value in values]
+
+
+def plain(value):
+    """The number of a fraction, as Python's own class writes it."""
+    return Fraction(value[0], value[1])
+
+
+def plains(values):
+    return [plain(value) for value in values]
+
+
+def program(goal, rows, free=()):
+    """A program from plain numbers; free lists the indexes of the free variables."""
+    return Program(
+        len(goal),
+        free=[at in free for at in range(len(goal))],
+        goal=rs(*goal),
+        rows=[(rs(*numbers), sign, r(bound)) for numbers, sign, bound in rows],
+    )
+
+
+def state(item):
+    """A copy of all that an object of the program holds, to compare it with later on."""
+    return copy.deepcopy(vars(item))
+
+
+def some_ratio(source, most=4):
+    return make(source.randint(-most, most), source.choice((1, 1, 2, 3)))
+
+
+def some_program(source, most=5, signs=("at least", "at most", "exactly"), free=0.25):
+    """A small random program; the source is a random.Random with a seed of its own."""
+    variables = source.randint(0, most)
+    rows = []
+    for _ in range(source.randint(0, most)):
+        numbers = [some_ratio(source) if source.random() < 0.7 else ZERO for _ in range(variables)]
+        rows.append((numbers, source.choice(signs), some_ratio(source)))
+    return Program(
+        variables,
+        free=[source.random() < free for _ in range(variables)],
+        goal=[some_ratio(source) for _ in range(variables)],
+        rows=rows,
+    )
+
+
+def judged_fit(item, point):
+    """Whether a point fits a program, judged from the document with Python's own fractions."""
+    if len(point) != item.variables:
+        return False
+    point = plains(point)
+    if any(x < 0 and not free for x, free in zip(point, item.free)):
+        return False
+    for numbers, sign, bound in item.rows:
+        amount = sum((a * x for a, x in zip(plains(numbers), point)), Fraction(0))
+        if sign == "at least" and not amount >= plain(bound):
+            return False
+        if sign == "at most" and not amount <= plain(bound):
+            return False
+        if sign == "exactly" and not amount == plain(bound):
+            return False
+    return True
+
+
+def _judged_factors(item, y, goal):
+    if len(y) != len(item.rows):
+        return False
+    for factor, (_, sign, _) in zip(plains(y), item.rows):
+        if (sign == "at least" and factor > 0) or (sign == "at most" and factor < 0):
+            return False
+    for column in range(item.variables):
+        amount = sum((f * plain(row[0][column]) for f, row in zip(plains(y), item.rows)), Fraction(0))
+        if amount < goal[column] or (item.free[column] and amount != goal[column]):
+            return False
+    return True
+
+
+def judged_certificate(item, certificate):
+    """Whether a certificate is accepted, judged from the document with Python's own fractions."""
+    kind, x, y, ray = certificate
+    goal = plains(item.goal)
+    bound = sum((f * plain(row[2]) for f, row in zip(plains(y), item.rows)), Fraction(0))
+    if kind == "best":
+        amount = sum((a * b for a, b in zip(goal, plains(x))), Fraction(0))
+        return judged_fit(item, x) and _judged_factors(item, y, goal) and bound == amount
+    if kind == "none":
+        return _judged_factors(item, y, [Fraction(0)] * item.variables) and bound < 0
+    if kind != "endless" or not judged_fit(item, x) or len(ray) != item.variables:
+        return False
+    still = [(numbers, sign, ZERO) for numbers, sign, _ in item.rows]
+    flat = Program(item.variables, free=item.free, goal=item.goal, rows=still)
+    return judged_fit(flat, ray) and sum((a * b for a, b in zip(goal, plains(ray))), Fraction(0)) > 0
+
+
+def kind_of(name, worths, weight=1, alone=0):
+    return name, r(weight), r(alone), rs(*worths)
+
+
+def game_of(worths, outcomes=None, **more):
+    """A game from plain worths: for each agent a list of the worths of each of its kinds."""
+    names = ["ann", "bob", "cid", "dan", "eve"]
+    agents = []
+    for name, kinds in zip(names, worths):
+        agents.append((name, [kind_of("abcde"[at], numbers) for at, numbers in enumerate(kinds)]))
+    if outcomes is None:
+        outcomes = ["one", "two", "three", "four", "five", "six"][:len(worths[0][0])]
+    return Game(agents, outcomes, **more)
+
+
+def entry_of(lot, paid):
+    return rs(*lot), rs(*paid)
+
+
+def some_game(source, lots=None):
+    """A small random game with all sorts of needs."""
+    sizes = source.choice(([1], [2], [3], [4], [2, 2], [1, 3], [3, 2], [2, 2, 2], [1, 2, 1], [2, 1, 1, 2]))
+    outcomes = source.randint(1, 3)
+    worths = [[[source.randint(-2, 4) for _ in range(outcomes)] for _ in range(size)] for size in sizes]
+    needs = [need for need in (("part",), ("budget",), ("even",), ("bound", r(source.randint(0, 3))))
+             if source.random() < 0.3]
+    if len(sizes) > 1 and source.random() < 0.5:
+        first, second = sorted(source.sample(range(len(sizes)), 2))
+        swap = list(range(outcomes))
+        if outcomes > 1:
+            swap[0], swap[-1] = swap[-1], swap[0]
+        needs.append(("envy", first, second, swap))
+    if source.random() < 0.5:
+        chosen = sorted(source.sample(range(outcomes), source.randint(1, outcomes)))
+        needs.append(("order", source.randrange(len(sizes)), chosen))
+    source.shuffle(needs)
+    return game_of(
+        worths,
+        aim=source.choice(("total", "worst", "paid")),
+        payments=source.random() < 0.5,
+        lots=source.random() < 0.5 if lots is None else lots,
+        needs=needs,
+    )
+
+
+def some_rule(source, game, count):
+    """A random rule for a game with so many profiles."""
+    rule = []
+    for _ in range(count):
+        outcomes = len(game.outcomes)
+        if game.lots:
+            parts = [source.randint(0, 3) for _ in range(outcomes)]
+            parts[0] += sum(parts) == 0
+            lot = [make(part, sum(parts)) for part in parts]
+        else:
+            first = source.randrange(outcomes)
+            lot = [ONE if at == first else ZERO for at in range(outcomes)]
+        paid = [some_ratio(source) if game.payments else ZERO for _ in game.agents]
+        rule.append((lot, paid))
+    return rule
+
+
+def seeded(seed):
+    return random.Random(seed)

@@ -1,0 +1,1 @@
+"""Unbent: rules under which nobody gains by a lie."""
