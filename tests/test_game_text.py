@@ -204,6 +204,11 @@ class Count(Faulty):
         for line in ("kind o 1 0 0 0", "kind k 1 0 0 0", "kind"):
             self.next_line(start, line, "count")
 
+    def test_kinds_of_a_later_agent(self):
+        start = ANN + "agent bob\n" + "".join(f"kind {name} 1 0 0 0\n" for name in "abcd")
+        read_game(start)
+        self.next_line(start, "kind e 1 0 0 0", "count")
+
     def test_outcomes(self):
         self.next_line("game total\n", "outs a b c d e f g", "count")
         self.next_line("game total\n", "outs a a a a a a a", "count")

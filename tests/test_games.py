@@ -158,6 +158,7 @@ class Refused(unittest.TestCase):
             ("envy", 0, 1, [1, 1]), ("envy", 0, 1, [0, 0]), ("envy", 0, 1, [0, 2]), ("envy", 0, 1, [-2, 1]),
             ("envy", 0, 1, [0, -1]), ("envy", 0, 1, 1), ("envy", 0, 1, "ab"), ("envy", 0, 1, (0, 1)), ("envy", 0, 1, []),
             ("envy", "ann", "bob", [0, 1]), ("envy", ZERO, ONE, [0, 1]), ("envy", [0], [1], [0, 1]),
+            ("envious", 0, 1, [0, 1]), ("orders", 0, [0]), ("part", 0, [0]), ("bound", 0, 1, [0, 1]),
             ("order",), ("order", 0), ("order", 0, []), ("order", 0, [0], 1), ("order", 2, [0]), ("order", -1, [0]),
             ("order", 0, [0, 0]), ("order", 0, [1, 0]), ("order", 0, [2]), ("order", 0, [-1]), ("order", 0, 0),
             ("order", 0, (0, 1)), ("order", "ann", [0]), ("order", ZERO, [0]), ("order", [0], [0]), ("order", 0, "none"),

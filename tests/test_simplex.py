@@ -158,6 +158,17 @@ class Circles(Solved):
             self.solved(program([source.randint(-3, 3) for _ in range(5)], rows), None)
             self.solved(program([0] * 5, rows + [([1] * 5, "exactly", 1)]), None)
 
+    def test_exact_rows_through_the_origin(self):
+        # Each of these rows holds already when it is added, and must go on to hold.
+        source = seeded(12)
+        for _ in range(60):
+            rows = [([source.randint(-2, 2) for _ in range(8)], "exactly", 0) for _ in range(3)]
+            goal = [source.randint(-3, 3) for _ in range(8)]
+            self.solved(program(goal, rows + [([1] * 8, "at most", 1)]), "best")
+            box = [([1 if at == side else 0 for at in range(8)], "at most", 1) for side in range(8)]
+            box += [([-1 if at == side else 0 for at in range(8)], "at most", 1) for side in range(8)]
+            self.solved(program(goal, rows + box, free=range(8)), "best")
+
     def test_long_ways(self):
         # Of such a program some searches visit all corners, 2 to the power of the number of variables.
         many = 24

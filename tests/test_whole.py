@@ -88,6 +88,7 @@ class Parts(unittest.TestCase):
         self.assertIs(is_whole([], point), True)
         self.assertIs(is_whole([0, 2], point), True)
         self.assertIs(is_whole([0, 1, 2], point), False)
+        self.assertIs(is_whole([0, 5], point), False)
 
     def test_relaxed_row_by_row(self):
         item = program([1, 2, 3], [([1, 1, 1], "at least", 2), ([0, 1, 0], "exactly", 1)], free=(1,))
@@ -186,6 +187,22 @@ class BestTrees(unittest.TestCase):
     def test_certificates_of_splits_do_not_matter(self):
         for certificate in [LEAF_ZERO, ("", [], [], []), ("none", rs(1), rs(1), rs(1))]:
             self.check(with_node(BEST, 0, (0, 1, 2, certificate)), True)
+
+    def test_endless_leaves_do_not_count(self):
+        item = program([1, 0], [])
+        for x, y in [(rs(0, 0), rs(0)), (rs(5, 0), []), (rs(5, 0), rs(1))]:
+            leaf = (-1, 0, 0, ("endless", rs(0, 0), y, rs(1, 0)))
+            self.check(("best", x, [], [leaf]), False, item, (1,))
+            self.check(("none", x, [], [leaf]), False, item, (1,))
+
+    def test_numbers_below_zero_are_no_nodes(self):
+        item = program([1], [([1], "at most", 1)])
+        leaf = (-1, 0, 0, ("best", rs(1), rs(1, 0, 0), []))
+        self.check(("best", rs(1), [], [(0, 1, 1, NOTHING), leaf]), False, item, (0,))
+        zero = (-1, 0, 0, ("best", rs(0), rs(0, 0, 1), []))
+        one = (-1, 0, 0, ("best", rs(1), rs(0, 0, 1), []))
+        self.check(("best", rs(1), [], [(0, 1, 2, NOTHING), zero, one]), True, item, (0,))
+        self.check(("best", rs(1), [], [(0, 1, -1, NOTHING), zero, one]), False, item, (0,))
 
     def test_missing_nodes(self):
         for many in range(5):
@@ -315,6 +332,14 @@ class Reached(unittest.TestCase):
             nodes.append((-1, 0, 0, ("none", [], [r(-1)] + [ZERO] * (10 + depth), [])))
             self.assertIs(accepts_tree(item, list(range(10)), ("none", [], [], nodes)), depth <= 8)
 
+    def test_a_variable_that_was_split_on_the_way(self):
+        item = program([0, 0], [([0, 0], "exactly", 1)])
+        leaves = [(-1, 0, 0, ("none", [], [r(-1)] + [ZERO] * many, [])) for many in (3, 4)]
+        for variable, expected in [(1, True), (0, False)]:
+            nodes = [(0, 1, 2, NOTHING), leaves[0], (variable, 3, 3, NOTHING), leaves[1]]
+            self.assertIs(accepts_tree(item, [0, 1], ("none", [], [], nodes)), expected)
+            self.assertIs(judged_tree(item, [0, 1], ("none", [], [], nodes)), expected)
+
     def test_circles(self):
         item = program([0, 0], [([0, 0], "exactly", 1)])
         for nodes in [[(0, 0, 0, NOTHING)], [(0, 1, 1, NOTHING), (1, 0, 0, NOTHING)]]:
@@ -362,6 +387,30 @@ class Solving(unittest.TestCase):
         item = program([0] * 8, [([2] * 8, "exactly", 7)])
         tree = self.solved(item, list(range(8)))
         self.assertEqual(tree[:3], ("none", [], []))
+
+    def all_must_split(self, many):
+        """A program that no bits fit, and whose every tree splits all whole variables on all ways.
+
+        Beside each whole variable stands one that is 0 if the first one is 0 or 1; their sum is above 0.
+        """
+        rows = []
+        for at in range(many):
+            for factor, bound in ((-1, 0), (1, 1)):
+                numbers = [0] * (2 * many)
+                numbers[at], numbers[many + at] = factor, 1
+                rows.append((numbers, "at most", bound))
+        rows.append(([0] * many + [1] * many, "at least", Fraction(1, 100)))
+        return program([0] * (2 * many), rows)
+
+    def test_the_largest_tree_of_eight_variables(self):
+        tree = self.solved(self.all_must_split(8), list(range(8)))
+        self.assertEqual(tree[:3], ("none", [], []))
+        self.assertEqual(len(tree[3]), 511)
+
+    def test_a_tree_that_is_too_large(self):
+        # Nine variables would need 512 leaves.
+        with self.assertRaises(TooLarge):
+            solve_whole(self.all_must_split(9), list(range(9)))
 
     def test_no_whole_variables(self):
         self.assertEqual(self.solved(KNAPSACK, [])[0], "best")

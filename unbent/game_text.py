@@ -8,6 +8,7 @@ from unbent.games import (
 from unbent.ratios import read_ratio, show_ratio, sign
 
 _MOST_CHARACTERS = 20000
+_HEADS = ("game", "outs")
 _NEEDS = ("part", "budget", "even", "bound", "envy", "order")
 _WORDS = ("game", "outs", "agent", "kind", "part", "budget", "even", "bound", "envy", "order")
 
@@ -53,8 +54,8 @@ def _is_number(word, least):
 
 def _has_place(draft, word):
     if draft.lines < 2:
-        return word == ("game", "outs")[draft.lines]
-    if word in ("game", "outs"):
+        return word == _HEADS[draft.lines]
+    if word in _HEADS:
         return False
     if word == "kind":
         return len(draft.agents) > 0 and len(draft.needs) == 0
