@@ -19,7 +19,7 @@ METHODS = set(
     " setdefault split splitlines startswith strip update upper values zfill bit_length removeprefix removesuffix"
     .split())
 
-LIBRARY = {"math": {"gcd", "lcm"}}
+LIBRARY = {"math": {"gcd", "lcm", "factorial"}, "itertools": {"permutations"}}
 
 NEVER = set(
     "register mro elements open input law version_info with_traceback add_note attrgetter breakpoint compile copyright"
