@@ -1,6 +1,8 @@
 """What several tests need: short ways to write fractions, programs and games, and a slow judge."""
 
 import copy
+import itertools
+import math
 import random
 from fractions import Fraction
 
@@ -177,3 +179,159 @@ def some_rule(source, game, count):
 
 def seeded(seed):
     return random.Random(seed)
+
+
+def sizes_of(game):
+    """The number of kinds of each agent."""
+    return [len(kinds) for _, kinds in game.agents]
+
+
+def profile_count_of(game):
+    return math.prod(sizes_of(game))
+
+
+def some_game_and_rule(source, **more):
+    game = some_game(source, **more)
+    return game, some_rule(source, game, profile_count_of(game))
+
+
+def profiles_in(box):
+    """The profiles whose kinds are in the box, in order."""
+    return list(itertools.product(*box))
+
+
+def some_end(source, game):
+    paid = [some_ratio(source) if game.payments else ZERO for _ in game.agents]
+    return "end", source.randrange(len(game.outcomes)), paid
+
+
+def some_tree(source, game, stop=0.3):
+    """A random question tree; its nodes stand in any order in which each question comes first."""
+    nodes = []
+    due = [(None, [list(range(size)) for size in sizes_of(game)])]
+    while due:
+        above, box = due.pop(source.randrange(len(due)))
+        if above is not None:
+            question, side = above
+            nodes[question][side] = len(nodes)
+        agents = [agent for agent, kinds in enumerate(box) if len(kinds) > 1]
+        if not agents or source.random() < stop:
+            nodes.append(list(some_end(source, game)))
+            continue
+        agent = source.choice(agents)
+        part = sorted(source.sample(box[agent], source.randint(1, len(box[agent]) - 1)))
+        for side, kinds in ((3, part), (4, [kind for kind in box[agent] if kind not in part])):
+            due.append(((len(nodes), side), box[:agent] + [kinds] + box[agent + 1:]))
+        nodes.append(["ask", agent, part, None, None])
+    return [tuple(node) for node in nodes]
+
+
+def flat(tree):
+    """The list of the nodes of a nested tree, ordered as in a grown tree."""
+    nodes = []
+
+    def add(node):
+        at = len(nodes)
+        nodes.append(node)
+        if node[0] == "ask":
+            yes = add(node[3])
+            no = add(node[4])
+            nodes[at] = node[:3] + (yes, no)
+        return at
+
+    add(tree)
+    return nodes
+
+
+# Values of every kind that are no letters, and mostly no contents either.
+ODD_VALUES = (
+    None, True, False, 0, -1, 7, "", "call", (), [], {}, b"call", 1.5, object(), [1], ("call",), (None,), {"call": 1},
+    ("call", 1, 0, 0), ("call", 1, 0, 0, 0, 0), ["call", 1, 0, 0, 0], ("call", 1, 0, 0, None), ("call", 1, 0, [], 0),
+    ("call", 1, 0, None, 0), ("call", 1, 0, True, 0), ("call", True, 0, 0, 0), ("call", 1, False, 0, 0),
+    ("call", 1, 0, 0, False), ("call", 1, 0, 0, True), ("call", "1", 0, 0, 0), ("call", 1, "0", 0, 0),
+    ("call", 1, 0, 0, "0"), ("Call", 1, 0, 0, 0), (None, 1, 0, 0, 0), (["call"], 1, 0, 0, 0), ("call", 1.0, 0, 0, 0),
+    ("call", (1,), 0, 0, 0), ((("call", 1, 0, 0, 0),),), [("call", 1, 0, 0, 0)], ("call", 1, 0, (0, [1]), 0),
+)
+
+
+def nested(deep, inner=None):
+    """Tuples that are nested so deep."""
+    value = () if inner is None else (inner,)
+    for _ in range(deep - 1):
+        value = (value,)
+    return value
+
+
+def letter_of(notary, keys, member, kind, body, round_number=1):
+    """A letter with its signature, made with the member's key."""
+    return kind, round_number, member, body, notary.sign(member, keys[member], (kind, round_number, body))
+
+
+def round_game():
+    """A game for rounds: two agents with two kinds each, payments and lots."""
+    return game_of([[[0, 4], [0, 8]], [[3, 0], [1, 0]]], payments=True, lots=True)
+
+
+def round_rule():
+    return [
+        entry_of([1, 0], [0, 0]),
+        ([r(1, 2), r(1, 2)], [ONE, ZERO]),
+        ([r(1, 4), r(3, 4)], [r(2), r(-1)]),
+        entry_of([0, 1], [3, -2]),
+    ]
+
+
+def state_of_notary(notary):
+    """What can be seen of a notary by asking it for new numbers, on a copy."""
+    twin = copy.deepcopy(notary)
+    return state(notary), twin.number(("kit", "new"))
+
+
+class Wicked:
+    """What a member that is not honest may think of: letters that others could fall for."""
+
+    def __init__(self, source, notary, game, due):
+        self.source = source
+        self.notary = notary
+        self.game = game
+        self.due = due
+        self.secrets = {}
+
+    def body(self, member, kind, letters):
+        """A body for a letter of this kind, made from the letters that were sent so far."""
+        if self.source.random() < 0.05:
+            return self.source.choice((0, 1, -1, "x", (), ((0, 0), (0, 0)), (0, "", 0, ZERO), self.due))
+        if kind == "call":
+            return self.due
+        if kind in ("list", "book"):
+            return self.pairs(letters, "commit" if kind == "list" else "open")
+        return self.commit(member) if kind == "commit" else self.opening(member, letters)
+
+    def pairs(self, letters, kind):
+        found = []
+        for party in range(1, len(self.game.agents) + 1):
+            own = [letter for letter in letters if letter[0] == kind and letter[2] == party]
+            # Mostly the latest one, so that lists and books have a chance to be completed.
+            letter = None if not own else own[-1] if self.source.random() < 0.5 else self.source.choice(own)
+            found.append((0, 0) if letter is None else (letter[3], letter[4]))
+        return tuple(found)
+
+    def report(self, member):
+        kinds = self.game.agents[member - 1][1] if member else [None]
+        salt = self.source.choice(("s", "t"))
+        return salt, self.source.randrange(len(kinds)), self.source.choice((ZERO, (1, 2), (2, 3)))
+
+    def commit(self, member):
+        # Mostly the first one again, so that opens have a chance to fit.
+        known = self.secrets.setdefault(member, [])
+        report = known[0] if known and self.source.random() < 0.7 else self.report(member)
+        known.append(report)
+        return self.notary.number(("report",) + report)
+
+    def opening(self, member, letters):
+        lists = [letter for letter in letters if letter[0] == "list"]
+        if not lists:
+            return 0, "s", 0, ZERO
+        body = self.source.choice(lists)[3]
+        report = self.source.choice(self.secrets.get(member, []) or [self.report(member)])
+        return (self.notary.number(("list", body)),) + report

@@ -10,8 +10,8 @@ PACKAGE = ROOT / "unbent"
 
 BUILTINS = set(
     "len range enumerate zip min max sum abs sorted reversed int str bool bytes list tuple dict set isinstance ord"
-    " repr any all divmod pow Exception ValueError TypeError KeyError IndexError LookupError ZeroDivisionError"
-    " True False None".split())
+    " repr any all divmod property super pow Exception ValueError TypeError KeyError IndexError LookupError"
+    " ZeroDivisionError True False None".split())
 
 METHODS = set(
     "append clear copy count endswith extend find get index insert isalnum isalpha isdigit islower isspace isupper"
@@ -32,7 +32,7 @@ WORDS = set(
 
 STATEMENTS = (
     ast.Assign, ast.AugAssign, ast.If, ast.While, ast.For, ast.Return, ast.Break, ast.Continue, ast.Pass, ast.Raise,
-    ast.Try, ast.Expr, ast.FunctionDef, ast.ClassDef, ast.ImportFrom,
+    ast.Try, ast.Expr, ast.Delete, ast.FunctionDef, ast.ClassDef, ast.ImportFrom,
 )
 
 FORBIDDEN = (
@@ -137,7 +137,8 @@ class Code(unittest.TestCase):
                 if isinstance(node, ast.stmt):
                     self.assertIsInstance(node, STATEMENTS, (path, node.lineno))
                 if isinstance(node, (ast.FunctionDef, ast.ClassDef)):
-                    self.assertEqual(node.decorator_list, [], (path, node.lineno))
+                    names = [ast.unparse(decorator) for decorator in node.decorator_list]
+                    self.assertIn(names, ([], ["property"]), (path, node.lineno))
                 if isinstance(node, ast.Constant):
                     self.assertNotIsInstance(node.value, (float, complex), (path, node.lineno))
 
@@ -161,9 +162,9 @@ class Code(unittest.TestCase):
                             self.assertTrue(isinstance(right, ast.Constant) and right.value in (None, True, False))
 
     def test_builtins_and_methods(self):
+        own = {node.name for _, tree in trees() for node in ast.walk(tree) if isinstance(node, ast.FunctionDef)}
         for path, tree in trees():
             names = set(bound_names(tree)) | set(imported_names(tree)) | BUILTINS
-            own = {node.name for node in ast.walk(tree) if isinstance(node, ast.FunctionDef)}
             for node in ast.walk(tree):
                 if isinstance(node, ast.Name) and isinstance(node.ctx, ast.Load):
                     self.assertIn(node.id, names, (path, node.lineno))

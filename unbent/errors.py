@@ -9,7 +9,7 @@ class TextError(UnbentError):
     """A line of a text is incorrect; lines count from 1."""
 
     def __init__(self, line, reason):
-        UnbentError.__init__(self, f"line {line}: {reason}")
+        super().__init__(f"line {line}: {reason}")
         self.line = line
         self.reason = reason
 
@@ -18,7 +18,7 @@ class TooLarge(UnbentError):
     """Something is beyond a limit; the attribute says which one."""
 
     def __init__(self, limit):
-        UnbentError.__init__(self, f"too large: {limit}")
+        super().__init__(f"too large: {limit}")
         self.limit = limit
 
 
@@ -26,7 +26,7 @@ class InvalidGame(UnbentError):
     """The parts of a game do not make a game."""
 
     def __init__(self, reason):
-        UnbentError.__init__(self, f"no game: {reason}")
+        super().__init__(f"no game: {reason}")
         self.reason = reason
 
 
@@ -34,7 +34,7 @@ class InvalidProgram(UnbentError):
     """The parts of a linear program do not make a program."""
 
     def __init__(self, reason):
-        UnbentError.__init__(self, f"no program: {reason}")
+        super().__init__(f"no program: {reason}")
         self.reason = reason
 
 
@@ -42,7 +42,7 @@ class InvalidSystem(UnbentError):
     """Rows and bounds do not make a system of equations."""
 
     def __init__(self, reason):
-        UnbentError.__init__(self, f"no system: {reason}")
+        super().__init__(f"no system: {reason}")
         self.reason = reason
 
 
@@ -50,7 +50,7 @@ class InvalidThresholds(UnbentError):
     """The parts of a rule of one number do not make such a rule."""
 
     def __init__(self, reason):
-        UnbentError.__init__(self, f"no rule of one number: {reason}")
+        super().__init__(f"no rule of one number: {reason}")
         self.reason = reason
 
 
@@ -58,7 +58,7 @@ class InvalidBidders(UnbentError):
     """A list of bidders is not as it must be."""
 
     def __init__(self, reason):
-        UnbentError.__init__(self, f"no bidders: {reason}")
+        super().__init__(f"no bidders: {reason}")
         self.reason = reason
 
 
@@ -66,7 +66,7 @@ class InvalidMenu(UnbentError):
     """The lists of a menu do not fit together."""
 
     def __init__(self, reason):
-        UnbentError.__init__(self, f"no menu: {reason}")
+        super().__init__(f"no menu: {reason}")
         self.reason = reason
 
 
@@ -74,7 +74,7 @@ class InvalidWishes(UnbentError):
     """A wish list, or a list that belongs to it, is not as it must be."""
 
     def __init__(self, reason):
-        UnbentError.__init__(self, f"no wishes: {reason}")
+        super().__init__(f"no wishes: {reason}")
         self.reason = reason
 
 
@@ -82,7 +82,7 @@ class InvalidNumber(UnbentError):
     """A text is not the text of a fraction."""
 
     def __init__(self, text):
-        UnbentError.__init__(self, f"no number: {text}")
+        super().__init__(f"no number: {text}")
         self.text = text
 
 
@@ -90,7 +90,7 @@ class UnknownProfile(UnbentError):
     """A tuple is no profile of the game."""
 
     def __init__(self, profile):
-        UnbentError.__init__(self, f"no profile: {profile}")
+        super().__init__("no profile of the game")
         self.profile = profile
 
 
@@ -98,7 +98,7 @@ class WrongKey(UnbentError):
     """A key is not the key of the member."""
 
     def __init__(self, member):
-        UnbentError.__init__(self, f"not the key of member {member}")
+        super().__init__("not the key of the member")
         self.member = member
 
 
@@ -106,7 +106,7 @@ class UnknownMachine(UnbentError):
     """There is no machine of this number."""
 
     def __init__(self, machine):
-        UnbentError.__init__(self, f"no machine {machine}")
+        super().__init__("no such machine")
         self.machine = machine
 
 
@@ -114,7 +114,7 @@ class MachineStopped(UnbentError):
     """The machine is not running."""
 
     def __init__(self, machine):
-        UnbentError.__init__(self, f"machine {machine} is stopped")
+        super().__init__("the machine is stopped")
         self.machine = machine
 
 
@@ -122,7 +122,7 @@ class UnknownLetter(UnbentError):
     """There is no letter of this number."""
 
     def __init__(self, number):
-        UnbentError.__init__(self, f"no letter {number}")
+        super().__init__("no such letter")
         self.number = number
 
 

@@ -3,9 +3,9 @@
 from unbent.errors import InvalidNumber, TextError, TooLarge
 from unbent.games import (
     AIMS, MOST_AGENTS, MOST_KINDS, MOST_NEEDS, MOST_OUTCOMES, MOST_PROFILES, Game, is_entry,
-    is_excluded, is_name, is_need, profile_count, profiles,
+    is_excluded, is_name, is_need, kind_names, profile_count, profiles,
 )
-from unbent.ratios import read_ratio, show_ratio, sign
+from unbent.ratios import read_ratio, show_ratio, show_ratios, sign
 
 _MOST_CHARACTERS = 20000
 _HEADS = ("game", "outs")
@@ -28,7 +28,7 @@ class Draft:
     """What the lines of a game have told so far."""
 
     def __init__(self):
-        self.lines = 0
+        self.taken = 0
         self.head = []
         self.outcomes = []
         self.agents = []
@@ -53,8 +53,8 @@ def _is_number(word, least):
 
 
 def _has_place(draft, word):
-    if draft.lines < 2:
-        return word == _HEADS[draft.lines]
+    if draft.taken < 2:
+        return word == _HEADS[draft.taken]
     if word in _HEADS:
         return False
     if word == "kind":
@@ -195,7 +195,7 @@ def _fault_of_line(draft, words):
 def _take_line(draft, words):
     """Add what a correct line tells."""
     word = words[0]
-    draft.lines += 1
+    draft.taken += 1
     if word == "game":
         draft.head = words[1:]
     elif word == "outs":
@@ -215,16 +215,12 @@ def read_game(text):
     for words in _lines_of(text):
         fault = _fault_of_line(draft, words)
         if fault is not None:
-            raise TextError(draft.lines + 1, fault)
+            raise TextError(draft.taken + 1, fault)
         _take_line(draft, words)
     if draft.is_waiting():
-        raise TextError(draft.lines + 1, "end")
+        raise TextError(draft.taken + 1, "end")
     return Game(draft.agents, draft.outcomes, aim=draft.head[-1], payments="pay" in draft.head,
                 lots="lots" in draft.head, needs=draft.needs)
-
-
-def _shown(numbers):
-    return [show_ratio(number) for number in numbers]
 
 
 def _need_words(game, need):
@@ -253,7 +249,7 @@ def write_game(game):
     for name, kinds in game.agents:
         lines.append(["agent", name])
         for kind, weight, alone, worths in kinds:
-            lines.append(["kind", kind] + _shown([weight, alone] + worths))
+            lines.append(["kind", kind] + show_ratios([weight, alone] + worths))
     for need in game.needs:
         lines.append(_need_words(game, need))
     return _text_of(lines)
@@ -323,8 +319,7 @@ def read_rule(game, text):
 def _entry_words(game, profile, entry):
     """Return the words of the line of an entry."""
     lot, paid = entry
-    names = [kinds[kind][0] for (_, kinds), kind in zip(game.agents, profile)]
-    return ["at"] + names + _shown(lot) + (_shown(paid) if game.payments else [])
+    return ["at"] + kind_names(game, profile) + show_ratios(lot) + (show_ratios(paid) if game.payments else [])
 
 
 def write_rule(game, rule):

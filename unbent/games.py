@@ -1,7 +1,7 @@
 """Games: agents of several kinds, outcomes, an aim and needs; their profiles, entries and rules."""
 
 from unbent.errors import InvalidGame, TooLarge, UnknownProfile
-from unbent.ratios import is_ratio, multiply, sign, total
+from unbent.ratios import is_int, is_ratio, multiply, sign, total
 
 AIMS = ("total", "worst", "paid")
 
@@ -108,8 +108,8 @@ def _check_needs(agents, outcomes, needs):
 
 
 def _is_index(part, count):
-    """Return True if the part of a need is an index of one of so many things."""
-    return isinstance(part, int) and not isinstance(part, bool) and 0 <= part < count
+    """Return True if the value, a part of a need or of a profile, is an index of one of so many things."""
+    return is_int(part) and 0 <= part < count
 
 
 def _is_swap(swap, outcomes):
@@ -158,12 +158,17 @@ def _counts(game):
     return [len(kinds) for _, kinds in game.agents]
 
 
+def tuples_of(lists):
+    """Return the tuples with one item of each list; the last item changes fastest."""
+    found = [()]
+    for items in lists:
+        found = [start + (item,) for start in found for item in items]
+    return found
+
+
 def profiles(game):
     """Return the list of the profiles; the kind of the last agent changes fastest."""
-    found = [()]
-    for count in _counts(game):
-        found = [start + (kind,) for start in found for kind in range(count)]
-    return found
+    return tuples_of([list(range(count)) for count in _counts(game)])
 
 
 def profile_number(game, profile):
@@ -173,7 +178,7 @@ def profile_number(game, profile):
         raise UnknownProfile(profile)
     number = 0
     for kind, count in zip(profile, counts):
-        if not 0 <= kind < count:
+        if not _is_index(kind, count):
             raise UnknownProfile(profile)
         number = number * count + kind
     return number
@@ -182,6 +187,11 @@ def profile_number(game, profile):
 def with_kind(profile, agent, kind):
     """Return the profile with the kind in place of the agent's."""
     return profile[:agent] + (kind,) + profile[agent + 1:]
+
+
+def kind_names(game, profile):
+    """Return the list of the names of the kinds of the profile."""
+    return [kinds[kind][0] for (_, kinds), kind in zip(game.agents, profile)]
 
 
 def profile_weight(game, profile):

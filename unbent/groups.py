@@ -1,7 +1,7 @@
 """Groups that lie together, tickets that draw outcomes, and audits of records."""
 
 from unbent.errors import InvalidCount, InvalidLot, InvalidTicket
-from unbent.games import profile_number, profiles, with_kind
+from unbent.games import profile_number, profiles, tuples_of, with_kind
 from unbent.ratios import add, compare, greatest_index, make, multiply, sign, total
 from unbent.rules import gain, has
 
@@ -18,11 +18,7 @@ def _groups(agents):
 
 def _told_kinds(game, members):
     """Return the tuples of a kind for each member, ascending."""
-    found = [()]
-    for agent in members:
-        count = len(game.agents[agent][1])
-        found = [start + (kind,) for start in found for kind in range(count)]
-    return found
+    return tuples_of([list(range(len(game.agents[agent][1]))) for agent in members])
 
 
 def _with_kinds(profile, members, told):
@@ -53,11 +49,16 @@ def first_joint_lie(game, rule):
     return None
 
 
+def is_ticket(number):
+    """Return True if the fraction is a ticket: at least 0 and less than 1."""
+    return sign(number) >= 0 and compare(number, (1, 1)) < 0
+
+
 def drawn(lot, ticket):
     """Return the index of the outcome that the ticket draws."""
     if any(sign(chance) < 0 for chance in lot) or total(lot) != (1, 1):
         raise InvalidLot()
-    if sign(ticket) < 0 or compare(ticket, (1, 1)) >= 0:
+    if not is_ticket(ticket):
         raise InvalidTicket()
     outcome = 0
     reached = lot[0]

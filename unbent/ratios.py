@@ -7,7 +7,8 @@ from unbent.errors import InvalidNumber, TooLarge, ZeroDenominator
 _READ_DIGITS = 12
 
 
-def _is_integer(value):
+def is_int(value):
+    """Return True if the value is an integer, for any value; True and False are none."""
     return isinstance(value, int) and not isinstance(value, bool)
 
 
@@ -16,7 +17,7 @@ def is_ratio(value):
     if not isinstance(value, tuple) or len(value) != 2:
         return False
     p, q = value
-    return _is_integer(p) and _is_integer(q) and q >= 1 and gcd(p, q) == 1
+    return is_int(p) and is_int(q) and q >= 1 and gcd(p, q) == 1
 
 
 def make(p, q=1):
@@ -156,3 +157,8 @@ def show_ratio(a):
     if _has_too_many_digits(a[0]) or _has_too_many_digits(a[1]):
         raise TooLarge("digits")
     return _text_of(a)
+
+
+def show_ratios(values):
+    """Return the list of the texts of the fractions."""
+    return [show_ratio(item) for item in values]

@@ -28,11 +28,11 @@ _MOST_ROWS = 200
 class Tableau:
     """The state of the search."""
 
-    def __init__(self, free, columns, basis, lines, goal, turns, exact):
+    def __init__(self, free, columns, basis, body, goal, turns, exact):
         self.free = free
         self.columns = list(columns)
         self.basis = list(basis)
-        self.lines = list(lines)
+        self.body = list(body)
         self.goal = goal
         # The slack of a row is its turn, 1 or -1, times the bound minus the sum of the row.
         self.turns = list(turns)
@@ -48,7 +48,7 @@ def begun(program):
 
 def copied(tableau):
     """Return a copy that can be changed while the tableau stays as it is."""
-    return Tableau(tableau.free, tableau.columns, tableau.basis, tableau.lines, tableau.goal,
+    return Tableau(tableau.free, tableau.columns, tableau.basis, tableau.body, tableau.goal,
                    tableau.turns, tableau.exact)
 
 
@@ -82,7 +82,7 @@ def _tiny_sum(tableau, whole):
 def _slack_line(tableau, numbers, bound):
     """Return the line of the bound minus the sum of the row."""
     den, whole = whole_line(numbers + [bound])
-    terms = [(whole[quantity], line) for quantity, line in zip(tableau.basis, tableau.lines)
+    terms = [(whole[quantity], line) for quantity, line in zip(tableau.basis, tableau.body)
              if _is_variable(tableau, quantity) and whole[quantity] != 0]
     times = 1
     for _, line in terms:
@@ -136,10 +136,10 @@ def _replaced(line, column, other):
 
 def _exchange(tableau, place, column):
     """Make the column basic, in the place of a basic quantity, which becomes the column."""
-    solved = _solved(tableau.lines[place], column)
-    lines = [_replaced(line, column, solved) for line in tableau.lines]
+    solved = _solved(tableau.body[place], column)
+    lines = [_replaced(line, column, solved) for line in tableau.body]
     lines[place] = solved
-    tableau.lines = lines
+    tableau.body = lines
     tableau.goal = _replaced(tableau.goal, column, solved)
     leaving = tableau.basis[place]
     tableau.basis[place] = tableau.columns[column]
@@ -163,7 +163,7 @@ def _first_stop(tableau, column, direction, target):
     best = None
     least = None
     for place, quantity in enumerate(tableau.basis):
-        numbers = tableau.lines[place][1]
+        numbers = tableau.body[place][1]
         fall = -direction * numbers[column]
         if place == target:
             size = (-numbers[-2], -numbers[-1], -fall)
@@ -217,7 +217,7 @@ def _raised(tableau, target):
     and ("endless", column, direction) if it can be raised without end.
     """
     while True:
-        numbers = tableau.goal[1] if target is None else tableau.lines[target][1]
+        numbers = tableau.goal[1] if target is None else tableau.body[target][1]
         step = _free_step(tableau, numbers, target)
         if step is None:
             step = _growing_step(tableau, numbers, target)
@@ -242,7 +242,7 @@ def _open_column(tableau, numbers):
 def add_row(tableau, row):
     """Add a row and return True if some point fits; otherwise its slack stays basic, below 0."""
     numbers, relation, bound = row
-    place = len(tableau.lines)
+    place = len(tableau.body)
     quantity = len(tableau.free) + place
     exact = relation == "exactly"
     line = _slack_line(tableau, numbers, bound)
@@ -252,7 +252,7 @@ def add_row(tableau, row):
     if not exact:
         line = _loosened(line, quantity)
     tableau.basis.append(quantity)
-    tableau.lines.append(line)
+    tableau.body.append(line)
     tableau.turns.append(-1 if turned else 1)
     tableau.exact.append(exact)
     return _settled(tableau, place, exact)
@@ -260,7 +260,7 @@ def add_row(tableau, row):
 
 def _settled(tableau, place, exact):
     """Make the slack of a new row 0 if the row is exact, otherwise at least 0; True if it can be."""
-    numbers = tableau.lines[place][1]
+    numbers = tableau.body[place][1]
     amount = (numbers[-2], numbers[-1])
     if amount < (0, 0):
         return _raised(tableau, place)[0] == "raised"
@@ -274,7 +274,7 @@ def _settled(tableau, place, exact):
 
 def _point(tableau):
     found = [(0, 1)] * len(tableau.free)
-    for quantity, (den, numbers) in zip(tableau.basis, tableau.lines):
+    for quantity, (den, numbers) in zip(tableau.basis, tableau.body):
         if _is_variable(tableau, quantity):
             found[quantity] = make(numbers[-2], den)
     return found
@@ -282,7 +282,7 @@ def _point(tableau):
 
 def _ray(tableau, column, direction):
     found = [(0, 1)] * len(tableau.free)
-    for quantity, (den, numbers) in zip(tableau.basis, tableau.lines):
+    for quantity, (den, numbers) in zip(tableau.basis, tableau.body):
         if _is_variable(tableau, quantity):
             found[quantity] = make(direction * numbers[column], den)
     quantity = tableau.columns[column]
@@ -305,7 +305,7 @@ def _factors(tableau, line, rows):
 def _refused(tableau, rows):
     """Return the certificate that no point fits, when the last row was added and none fits it."""
     last = len(tableau.turns) - 1
-    found = _factors(tableau, tableau.lines[last], rows)
+    found = _factors(tableau, tableau.body[last], rows)
     found[last] = (tableau.turns[last], 1)
     return "none", [], found, []
 
