@@ -7,6 +7,7 @@ import random
 from fractions import Fraction
 
 from unbent.games import Game
+from unbent.net import Net
 from unbent.programs import Program
 from unbent.ratios import make
 
@@ -296,10 +297,12 @@ class Wicked:
         self.game = game
         self.due = due
         self.secrets = {}
+        # A steady one commits itself once, and may lie when it opens.
+        self.steady = source.random() < 0.5
 
     def body(self, member, kind, letters):
         """A body for a letter of this kind, made from the letters that were sent so far."""
-        if self.source.random() < 0.05:
+        if self.source.random() < 0.03:
             return self.source.choice((0, 1, -1, "x", (), ((0, 0), (0, 0)), (0, "", 0, ZERO), self.due))
         if kind == "call":
             return self.due
@@ -324,7 +327,7 @@ class Wicked:
     def commit(self, member):
         # Mostly the first one again, so that opens have a chance to fit.
         known = self.secrets.setdefault(member, [])
-        report = known[0] if known and self.source.random() < 0.7 else self.report(member)
+        report = known[0] if known and (self.steady or self.source.random() < 0.7) else self.report(member)
         known.append(report)
         return self.notary.number(("report",) + report)
 
@@ -333,5 +336,41 @@ class Wicked:
         if not lists:
             return 0, "s", 0, ZERO
         body = self.source.choice(lists)[3]
-        report = self.source.choice(self.secrets.get(member, []) or [self.report(member)])
+        known = self.secrets.get(member, [])
+        report = self.source.choice(known) if known and self.source.random() < 0.8 else self.report(member)
         return (self.notary.number(("list", body)),) + report
+
+
+def run_net(source, net, game, due, honest, steps, steady=None):
+    """A random course of a net."""
+    wicked = Wicked(source, net.notary, game, due)
+    wicked.steady = wicked.steady if steady is None else steady
+    forgers = [member for member, is_honest in enumerate(honest) if not is_honest]
+    net.begin()
+    for _ in range(steps):
+        letters = net.letters()
+        if forgers and source.random() < 0.4:
+            member = source.choice(forgers)
+            kind = source.choice(("call", "list", "book", "list", "book") if member == 0 else ("commit", "open"))
+            if source.random() < 0.05:
+                kind = source.choice(("call", "commit", "list", "open", "book"))
+            net.forge(member, kind, wicked.body(member, kind, letters))
+        elif letters:
+            late = range(max(0, len(letters) - 4), len(letters))
+            number = source.choice(late if source.random() < 0.6 else range(len(letters)))
+            net.deliver(number, source.randrange(len(honest)))
+
+
+def some_net(source, honest=None):
+    """A random net with its game, rule, honest members and kinds."""
+    game, rule = some_game_and_rule(source)
+    while honest is not None and len(game.agents) + 1 != len(honest):
+        game, rule = some_game_and_rule(source)
+    if honest is None:
+        honest = [source.random() < 0.5 for _ in range(len(game.agents) + 1)]
+    reports = []
+    for at, (_, kinds) in enumerate(game.agents):
+        below = source.randint(1, 6)
+        reports.append((source.randrange(len(kinds)), f"s{at}", r(source.randrange(below), below)))
+    keys = [f"key {at}" for at in range(len(honest))]
+    return Net(game, rule, keys, honest=honest, reports=reports), game, rule, honest, reports

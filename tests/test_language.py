@@ -193,6 +193,79 @@ class Code(unittest.TestCase):
                             self.assertNotIn(ast.unparse(node.value), over, (path, node.lineno))
 
 
+class Classes(unittest.TestCase):
+    def members(self):
+        """For each class its methods, its properties and the attributes that it assigns."""
+        for path, tree in trees():
+            for item in tree.body:
+                if isinstance(item, ast.ClassDef):
+                    parts = [part for part in item.body if isinstance(part, ast.FunctionDef)]
+                    methods = {part.name for part in parts if not part.decorator_list}
+                    properties = {part.name for part in parts if part.decorator_list}
+                    attributes = {node.attr for node in ast.walk(item)
+                                  if isinstance(node, ast.Attribute) and isinstance(node.ctx, ast.Store)}
+                    yield path, item.name, methods, properties, attributes
+
+    def test_methods_and_attributes(self):
+        every = list(self.members())
+        stored = {name for member in every for name in member[4]}
+        for path, word, methods, properties, attributes in every:
+            self.assertEqual(methods & attributes, set(), (path, word))
+            self.assertEqual(properties & stored, set(), (path, word))
+            self.assertEqual(properties & {name for member in every for name in member[2]}, set(), (path, word))
+
+    def test_attributes_are_free(self):
+        taken = {name for kind in (str, int, list, dict, set, bytes, tuple) for name in dir(kind)}
+        for path, word, methods, properties, attributes in self.members():
+            self.assertEqual((methods | properties | attributes) & taken, {"add", "__init__"} & methods, (path, word))
+
+    def test_no_method_is_read_off_a_class(self):
+        names = {word for _, word, _, _, _ in self.members()}
+        for path, tree in trees():
+            for node in ast.walk(tree):
+                if isinstance(node, ast.Attribute) and isinstance(node.value, ast.Name):
+                    self.assertNotIn(node.value.id, names, (path, node.lineno))
+
+    def test_properties_only_read(self):
+        for path, tree in trees():
+            for node in ast.walk(tree):
+                if isinstance(node, ast.FunctionDef) and node.decorator_list:
+                    lines = [line for line in node.body if not isinstance(line, ast.Expr)]
+                    self.assertEqual([type(line) for line in lines], [ast.Return], (path, node.name))
+
+
+class Values(unittest.TestCase):
+    def test_where_generator_expressions_and_sets_stand(self):
+        for path, tree in trees():
+            direct = set()
+            for node in ast.walk(tree):
+                if isinstance(node, ast.Call) and isinstance(node.func, ast.Name):
+                    if node.func.id in ("list", "tuple", "dict", "sorted", "sum", "min", "max", "any", "all"):
+                        direct.update(id(part) for part in node.args)
+                    if node.func.id in ("sorted", "len"):
+                        for part in node.args:
+                            if isinstance(part, ast.Call) and isinstance(part.func, ast.Name) and part.func.id == "set":
+                                direct.add(id(part))
+            for node in ast.walk(tree):
+                is_set = isinstance(node, ast.Call) and isinstance(node.func, ast.Name) and node.func.id == "set"
+                if isinstance(node, ast.GeneratorExp) or is_set:
+                    self.assertIn(id(node), direct, (path, node.lineno))
+
+    def test_views_are_iterated_at_once(self):
+        for path, tree in trees():
+            direct = set()
+            for node in ast.walk(tree):
+                if isinstance(node, (ast.For, ast.comprehension)):
+                    direct.add(id(node.iter))
+                elif isinstance(node, ast.Call) and isinstance(node.func, ast.Name):
+                    direct.update(id(part) for part in node.args)
+            for node in ast.walk(tree):
+                if isinstance(node, ast.Call):
+                    name = node.func.id if isinstance(node.func, ast.Name) else node.func.attr
+                    if name in ("zip", "enumerate", "reversed", "range", "items", "keys", "values", "permutations"):
+                        self.assertIn(id(node), direct, (path, node.lineno))
+
+
 class Names(unittest.TestCase):
     def test_names_are_free(self):
         for path, tree in trees():

@@ -45,7 +45,7 @@ class Keys(unittest.TestCase):
                 for other in keys:
                     self.assertIs(notary.is_key(member, other), key == other)
                 self.assertIs(notary.is_key(member, ""), False)
-            for member in (-1, -len(keys), len(keys), 99):
+            for member in (-1, -len(keys), len(keys), 99, True, False, "1", None):
                 for key in keys:
                     self.assertIs(notary.is_key(member, key), False)
 

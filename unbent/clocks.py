@@ -1,7 +1,7 @@
 """Clock auctions: the price ascends, and bidders are asked whether they stay in."""
 
 from unbent.errors import InvalidClock, TooLarge
-from unbent.games import MOST_KINDS, MOST_PROFILES, Game, profile_count
+from unbent.games import MOST_KINDS, Game
 from unbent.ratios import compare
 
 _BIDDERS = ("one", "two", "three")
@@ -13,10 +13,9 @@ def _check(values, bidders):
         raise InvalidClock()
     if not all(compare(first, second) < 0 for first, second in zip(values, values[1:])):
         raise InvalidClock()
+    # More profiles than there may be are refused by the game.
     if len(values) > MOST_KINDS:
         raise TooLarge("values")
-    if profile_count([len(values)] * bidders) > MOST_PROFILES:
-        raise TooLarge("profiles")
 
 
 def _game(values, bidders):

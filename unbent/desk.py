@@ -52,7 +52,7 @@ def open_fits(notary, game, round_number, party, list_body, body):
     if not is_content(body) or not isinstance(body, tuple) or len(body) != 4:
         return False
     number, salt, kind, ticket = body
-    if not is_int(number) or number != notary.known(("list", list_body)):
+    if number != notary.known(("list", list_body)):
         return False
     if not is_report(game, party, kind, ticket):
         return False
